@@ -160,7 +160,9 @@ func readChange(word string, rest []string) (change, bool) {
 		if !ok {
 			return nil, false
 		}
-		return spanChange{Span{Id: n[0], Parent: n[1], Service: rest[4], Start: n[2], End: n[3]}}, true
+		// A piece of the text would be the caller's memory, and hold all of it.
+		service := strings.Clone(rest[4])
+		return spanChange{Span{Id: n[0], Parent: n[1], Service: service, Start: n[2], End: n[3]}}, true
 	case word == wordKeep && len(rest) == 0:
 		return keepChange{}, true
 	case word == wordLife && len(rest) == 1:

@@ -4,6 +4,7 @@ import (
 	"math"
 	"strings"
 	"testing"
+	"unsafe"
 
 	"loop.example/g00368/impl"
 )
@@ -268,5 +269,16 @@ func TestReadUpdateTakesNoOtherText(t *testing.T) {
 				}
 			}
 		}
+	}
+}
+
+func TestReadServiceIsNewMemory(t *testing.T) {
+	text := impl.UpdateText(spanUpdate())
+	u, ok := impl.ReadUpdate(text)
+	if !ok || u.Span.Service != "web" {
+		t.Fatal(u, ok)
+	}
+	if unsafe.StringData(u.Span.Service) == unsafe.StringData(text[len(text)-len("web"):]) {
+		t.Error("Service is a piece of the text")
 	}
 }
